@@ -1,0 +1,1 @@
+"""Parley: checking communicating processes."""
