@@ -1,0 +1,99 @@
+"""The examples of the document, word for word."""
+
+import unittest
+
+EXAMPLES = (
+    '''
+>>> from parley.texts import parse_process
+>>> parse_process("a -> stop + b -> P <c> skip")
+('parallel', ('c',), ('external', ('prefix', 'a', ('stop',)), ('prefix', 'b', ('name', 'P'))), ('skip',))
+''',
+    '''
+>>> from parley.texts import show_process
+>>> show_process(("prefix", "a", ("hide", ("b",), ("external", ("stop",), ("name", "P")))))
+'a -> (stop + P) / {b}'
+''',
+    '''
+>>> from parley.texts import parse_script
+>>> parse_script("P = a -> P <> b -> stop").definitions
+raises Growing
+''',
+    '''
+>>> from parley.texts import parse_script, format_script
+>>> format_script(parse_script("P = a->P\\n  \\nQ = (P<b,a>P)/{a}"))
+'P = a -> P\\nQ = (P <a, b> P) / {a}'
+''',
+    '''
+>>> from parley.texts import parse_script
+>>> from parley.steps import steps
+>>> script = parse_script("P = a -> P\\nQ = (P <a> a -> stop) / {a}")
+>>> steps(script, ("name", "Q"))
+[('tau', ('hide', ('a',), ('parallel', ('a',), ('name', 'P'), ('stop',))))]
+''',
+    '''
+>>> from parley.texts import parse_process, parse_script
+>>> from parley.steps import steps
+>>> steps(parse_script(""), parse_process("skip ; b -> stop"))
+[('tau', ('prefix', 'b', ('stop',)))]
+''',
+    '''
+>>> from parley.texts import parse_process, parse_script
+>>> from parley.walks import Walk
+>>> walk = Walk(parse_script(""), parse_process("(a -> skip | b -> stop) ; c -> stop"))
+>>> [walk.follow("tau"), walk.follow("a"), walk.follow("tau"), walk.follow("c"), walk.follow("c")]
+[True, True, True, True, False]
+''',
+    '''
+>>> from parley.systems import System
+>>> from parley.combining import side_by_side
+>>> one = System(2, [(0, "a", 1), (1, "b", 0)])
+>>> side_by_side(one, one, ("a",)).edges
+((0, 'a', 1), (1, 'b', 2), (1, 'b', 3), (2, 'b', 0), (3, 'b', 0))
+''',
+)
+
+
+def shown(code, names):
+    """What an interpreter prints for one line, or the name of the error that it raises."""
+    try:
+        if code.startswith("from ") or " = " in code.partition("(")[0]:
+            exec(code, names)
+            return ""
+        return repr(eval(code, names))
+    except ValueError as error:
+        return "raises " + type(error).__name__
+
+
+class ExamplesTest(unittest.TestCase):
+    def test_examples(self):
+        for example in EXAMPLES:
+            names = {}
+            last = ""
+            for line in example.strip().split("\n"):
+                if line.startswith(">>> "):
+                    self.assertEqual(last, "", example)
+                    last = shown(line[4:], names)
+                else:
+                    self.assertEqual(last, line, example)
+                    last = ""
+            self.assertEqual(last, "", example)
+
+    def test_explored_part_of_the_example_of_the_text_of_systems(self):
+        from parley.exploring import explore
+        from parley.texts import parse_script
+
+        system, places = explore(parse_script("P = a -> P + b -> skip"), ("name", "P"))
+        self.assertEqual(system.count, 3)
+        self.assertEqual(system.edges, ((0, "a", 0), (0, "b", 1), (1, "tick", 2)))
+        self.assertEqual(places, [("name", "P"), ("skip",), ("stop",)])
+
+    def test_first_tau_of_the_example_of_walks(self):
+        from parley.texts import parse_process, parse_script, show_process
+        from parley.walks import Walk
+
+        walk = Walk(parse_script(""), parse_process("(a -> skip | b -> stop) ; c -> stop"))
+        self.assertEqual(show_process(walk.choices()[0][1]), "a -> skip ; c -> stop")
+
+
+if __name__ == "__main__":
+    unittest.main()

@@ -1,0 +1,59 @@
+"""The names of the interface: where they are defined, and what arguments they take."""
+
+import importlib
+import inspect
+import unittest
+
+FUNCTIONS = {
+    "processes": ("is_event(word)", "is_name(word)", "height(process)", "references(process)"),
+    "texts": ("show_process(process)", "parse_process(text)", "format_script(script)", "parse_script(text)"),
+    "steps": ("steps(script, process)", "can_do(script, process)"),
+    "systems": ("is_action(word)", "reached(system)"),
+    "exploring": ("explore(script, process, *, limit=2000)",),
+    "combining": (
+        "side_by_side(first, second, events, *, limit=20000)",
+        "hidden(system, events)",
+        "renamed(system, pairs)",
+    ),
+}
+CLASSES = {
+    ("scripts", "Script"): ("__init__(self, definitions)", "body(self, name)"),
+    ("walks", "Walk"): (
+        "__init__(self, script, process)",
+        "choices(self)",
+        "take(self, index)",
+        "follow(self, action)",
+        "back(self)",
+    ),
+    ("systems", "System"): (
+        "__init__(self, count, edges)",
+        "leaving(self, state)",
+        "targets(self, state, action)",
+        "offers(self, state)",
+        "is_stable(self, state)",
+        "events(self)",
+        "__eq__(self, other)",
+    ),
+}
+
+
+class InterfaceTest(unittest.TestCase):
+    def test_functions(self):
+        for stem, lines in FUNCTIONS.items():
+            module = importlib.import_module("parley." + stem)
+            for line in lines:
+                function = getattr(module, line.partition("(")[0])
+                self.assertEqual(function.__module__, "parley." + stem)
+                self.assertEqual(function.__name__ + str(inspect.signature(function)), line)
+
+    def test_classes(self):
+        for (stem, name), lines in CLASSES.items():
+            owner = getattr(importlib.import_module("parley." + stem), name)
+            self.assertEqual(owner.__module__, "parley." + stem)
+            for line in lines:
+                method = vars(owner)[line.partition("(")[0]]
+                self.assertEqual(method.__name__ + str(inspect.signature(method)), line)
+
+
+if __name__ == "__main__":
+    unittest.main()
