@@ -50,6 +50,62 @@ raises Growing
 >>> side_by_side(one, one, ("a",)).edges
 ((0, 'a', 1), (1, 'b', 2), (1, 'b', 3), (2, 'b', 0), (3, 'b', 0))
 ''',
+    '''
+>>> from parley.texts import parse_script
+>>> from parley.exploring import explore
+>>> from parley.systemtext import format_system
+>>> system, places = explore(parse_script("P = a -> P + b -> skip"), ("name", "P"))
+>>> format_system(system)
+'states 3\\n0 a 0\\n0 b 1\\n1 tick 2'
+''',
+    '''
+>>> from parley.systems import System
+>>> from parley.behaviours import states_after, stable_offers
+>>> system = System(4, [(0, "tau", 1), (0, "tau", 2), (1, "a", 3), (2, "b", 0)])
+>>> [states_after(system, ("b",)), stable_offers(system, ()), stable_offers(system, ("a",))]
+[(0, 1, 2), [('a',), ('b',)], [()]]
+''',
+    '''
+>>> from parley.systems import System
+>>> from parley.behaviours import diverging
+>>> diverging(System(4, [(0, "a", 1), (1, "tau", 2), (2, "tau", 2), (3, "tau", 1)]))
+(1, 2, 3)
+''',
+    '''
+>>> from parley.texts import parse_script
+>>> from parley.exploring import explore
+>>> from parley.refining import refines
+>>> script = parse_script("P = a -> P + b -> stop\\nQ = a -> Q | b -> stop")
+>>> systems = [explore(script, ("name", name))[0] for name in ("P", "Q")]
+>>> [refines(systems[0], systems[1], "traces")[0], refines(systems[0], systems[1], "failures")]
+['yes', ('no', ('failure', (), ('a',)))]
+''',
+    '''
+>>> from parley.systems import System
+>>> from parley.refining import refines
+>>> refines(System(1, [(0, "a", 0)]), System(2, [(0, "a", 1), (1, "b", 0)]), "traces")
+('no', ('trace', ('a', 'b')))
+''',
+    '''
+>>> from parley.systems import System
+>>> from parley.refining import refines
+>>> second = System(3, [(0, "tau", 1), (0, "b", 2), (1, "a", 2), (2, "c", 2)])
+>>> refines(System(2, [(0, "a", 1), (0, "b", 1)]), second, "traces")
+('no', ('trace', ('a', 'c')))
+''',
+    '''
+>>> from parley.systems import System
+>>> from parley.normalising import normal_form
+>>> system = System(4, [(0, "tau", 1), (0, "tau", 2), (1, "a", 3), (2, "a", 3), (2, "b", 3)])
+>>> normal_form(system, "failures")
+(((('a', 1), ('b', 1)), (('a',),), False), ((), ((),), False))
+''',
+    '''
+>>> from parley.systems import System
+>>> from parley.normalising import normal_form
+>>> normal_form(System(2, [(0, "a", 1), (1, "tau", 1), (1, "b", 0)]), "divergences")
+(((('a', 1),), (('a',),), False), ((), (), True))
+''',
 )
 
 

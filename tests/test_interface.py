@@ -15,6 +15,33 @@ FUNCTIONS = {
         "hidden(system, events)",
         "renamed(system, pairs)",
     ),
+    "systemtext": ("format_system(system)", "parse_system(text)"),
+    "behaviours": (
+        "closure(system, states)",
+        "after(system, states, action)",
+        "states_after(system, trace)",
+        "is_trace(system, trace)",
+        "stable_offers(system, trace)",
+        "diverges(system, state)",
+        "diverging(system)",
+        "is_divergence(system, trace)",
+        "traces_up_to(system, length, *, limit=10000)",
+        "is_behaviour(system, behaviour)",
+    ),
+    "refining": (
+        "allows(system, behaviour, model)",
+        "refines(first, second, model, *, limit=20000)",
+        "order_key(behaviour)",
+    ),
+    "certifying": (
+        "is_certificate(first, second, model, certificate)",
+        "is_difference(first, second, model, behaviour)",
+    ),
+    "normalising": (
+        "normal_form(system, model, *, limit=2000)",
+        "picture(form, model)",
+        "are_equal(first, second, model, *, limit=2000)",
+    ),
 }
 CLASSES = {
     ("scripts", "Script"): ("__init__(self, definitions)", "body(self, name)"),
