@@ -106,6 +106,32 @@ raises Growing
 >>> normal_form(System(2, [(0, "a", 1), (1, "tau", 1), (1, "b", 0)]), "divergences")
 (((('a', 1),), (('a',),), False), ((), (), True))
 ''',
+    '''
+>>> from parley.formulas import parse_formula
+>>> parse_formula("<a> true & ![b] true | loops")
+('or', ('and', ('can', 'a', ('true',)), ('not', ('must', 'b', ('true',)))), ('loops',))
+''',
+    '''
+>>> from parley.sheets import sheet_of
+>>> from parley.formulas import parse_formula
+>>> sheet_of(parse_formula("<a> true & <a> true"))
+(('true',), ('can', 'a', 0), ('and', 1, 1))
+''',
+    '''
+>>> from parley.systems import System
+>>> from parley.holding import states_with
+>>> from parley.formulas import parse_formula
+>>> system = System(4, [(0, "a", 1), (1, "tau", 2), (2, "b", 3)])
+>>> [states_with(system, parse_formula(text)) for text in ("<b> true", "<<b>> true", "[a] <b> true", "<<a>> <b> true")]
+[(2,), (1, 2), (1, 2, 3), (0,)]
+''',
+    '''
+>>> from parley.systems import System
+>>> from parley.classes import classes_after, small
+>>> system = System(4, [(0, "a", 1), (1, "b", 0), (0, "a", 2), (2, "b", 3), (3, "a", 1)])
+>>> [classes_after(system, 1), small(system).edges]
+[[(0, 3), (1, 2)], ((0, 'a', 1), (1, 'b', 0))]
+''',
 )
 
 

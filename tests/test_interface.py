@@ -42,6 +42,28 @@ FUNCTIONS = {
         "picture(form, model)",
         "are_equal(first, second, model, *, limit=2000)",
     ),
+    "formulas": ("depth(formula)", "formula_height(formula)", "show_formula(formula)", "parse_formula(text)"),
+    "holding": (
+        "soft_targets(system, state, action)",
+        "states_with(system, formula)",
+        "holds(system, state, formula)",
+        "satisfies(system, formula)",
+    ),
+    "sheets": (
+        "is_sheet(rows)",
+        "sheet_of(formula)",
+        "unfolded(sheet, *, limit=10000)",
+        "sheet_depth(sheet)",
+        "rows_with(system, sheet)",
+        "sheet_satisfies(system, sheet)",
+    ),
+    "classes": (
+        "classes_after(system, step)",
+        "classes(system)",
+        "last_round(system)",
+        "are_equivalent(system, first, second)",
+        "small(system)",
+    ),
 }
 CLASSES = {
     ("scripts", "Script"): ("__init__(self, definitions)", "body(self, name)"),
