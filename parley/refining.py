@@ -63,7 +63,8 @@ class PairSearch:
 
     A group has the pairs whose least trace is the same, so their states of the first system are the
     same, too. It is a tuple of the number of these states, the states of the second system, the
-    group before, and the action that leads from that group to this one.
+    group before, and the action that leads from that group to this one. Where the first system has
+    no states after the action, no pair follows: the group then shows only that the trace is a fault.
     """
 
     def __init__(self, first, second, model, limit):
@@ -128,6 +129,9 @@ class PairSearch:
         return tuple(reversed(actions))
 
     def _add_group(self, number, targets, before, action):
+        if self.tracker.tuples[number] == ():
+            self.groups.append((number, [], before, action))
+            return
         states = self._new_states(number, targets)
         if len(self.pairs) > self._limit:
             raise TooLarge(self._limit)

@@ -157,7 +157,8 @@ def following_pairs(first, second, model, pair):
     for source, action, target in second.edges:
         if source == state:
             after = states if action == "tau" else tuple(sorted(follow(first, states, action)))
-            found.append((target, after))
+            if action == "tau" or after:
+                found.append((target, after))
     return found
 
 

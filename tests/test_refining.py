@@ -216,13 +216,29 @@ class RefinesTest(unittest.TestCase):
             self.assertEqual(refines(STOP, STOP, model, limit=1)[0], "yes")
 
     def test_limits_count_though_the_answer_is_no(self):
-        # At once there is a difference, but the pairs with no states of the first system count, too.
-        second = naive.ring(*["b", "tau", "b"])
+        # At once there is a difference, but all pairs with states of the first system count.
+        first = System(1, [(0, "a", 0)])
+        second = System(4, [(0, "b", 0), (0, "a", 1), (1, "a", 2), (2, "tau", 3)])
         for model in MODELS:
-            self.assertEqual(refines(STOP, second, model, limit=4), ("no", ("trace", ("b",))))
-            self.too_large(3, STOP, second, model, limit=3)
-            self.too_large(1, STOP, second, model, limit=1)
+            self.assertEqual(refines(first, second, model, limit=4), ("no", ("trace", ("b",))))
+            self.too_large(3, first, second, model, limit=3)
+            self.too_large(1, first, second, model, limit=1)
         self.too_large(20000, naive.ring(*["a"] * 150), naive.ring(*["a"] * 151), "traces")
+
+    def test_nothing_follows_where_the_first_system_has_no_states(self):
+        # The second system goes on behind "b", but there are no pairs any more.
+        for second in (naive.ring("b", "tau", "b"), naive.line("b", "a", "tau", "b"), System(2, [(0, "b", 1), (0, "c", 1)])):
+            for model in MODELS:
+                self.assertEqual(refines(STOP, second, model, limit=1), ("no", ("trace", ("b",))))
+        # A pair that is reached along another trace, too, still counts.
+        first, second = System(3, [(0, "a", 1), (1, "b", 2)]), System(3, [(0, "a", 1), (0, "b", 1), (1, "b", 2)])
+        for model in MODELS:
+            self.assertEqual(refines(first, second, model, limit=3), ("no", ("trace", ("b",))))
+            self.too_large(2, first, second, model, limit=2)
+        # Of two traces that the first system has not, the least one is shown, whatever comes first in the list of edges.
+        second = System(4, [(0, "z", 1), (0, "tau", 2), (2, "y", 3), (3, "x", 3)])
+        for model in MODELS:
+            self.assertEqual(refines(STOP, second, model, limit=2), ("no", ("trace", ("y",))))
 
     def test_unknown_models(self):
         for model in ("", "failure", "Failures", "divergence"):
