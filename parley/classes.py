@@ -2,7 +2,7 @@
 
 from parley.errors import BadArgument
 from parley.numbering import numbered
-from parley.parting import Parting
+from parley.parting import EdgeSigns, Parting
 from parley.systems import System, reached
 
 
@@ -34,7 +34,7 @@ def last_round(system):
 
 def strong_parting(system):
     """The parting of the states of a system in round 0."""
-    return Parting(system.count, system.edges, [0] * system.count)
+    return Parting([0] * system.count, EdgeSigns(system.count, system.edges))
 
 
 def are_equivalent(system, first, second):

@@ -9,9 +9,14 @@ KINDS_IN_MODELS = {
 }
 
 
+def is_model(word):
+    """Whether a word is the name of a model."""
+    return word in KINDS_IN_MODELS
+
+
 def check_model(model):
     """Raises UnknownModel if a word is not the name of a model."""
-    if model not in KINDS_IN_MODELS:
+    if not is_model(model):
         raise UnknownModel(model)
 
 

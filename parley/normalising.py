@@ -3,7 +3,7 @@
 from parley.behaviours import Tracker, diverging, offers_among
 from parley.models import check_model, smallest_offers
 from parley.numbering import numbered
-from parley.parting import Parting
+from parley.parting import parted_by_edges
 from parley.systems import System
 
 
@@ -14,8 +14,7 @@ def normal_form(system, model, *, limit=2000):
     hanging = {state: True for state in diverging(system)} if model == "divergences" else {}
     numbers, edges = numbered(tracker.start, lambda number: moves_of(tracker, hanging, number), limit)
     labels = [label_of(system, hanging, model, tracker.tuples[number]) for number in numbers]
-    parting = Parting(len(numbers), edges, labels)
-    parting.finish()
+    parting = parted_by_edges(len(numbers), edges, labels)
     return form_of(parting, edges, labels)
 
 

@@ -3,6 +3,7 @@
 from parley.behaviours import Tracker, after, closure, diverging, is_trace, offers_among, stable_offers
 from parley.errors import TooLarge
 from parley.models import check_model, has_part, smallest_offers
+from parley.searching import targets_by_action, trace_of_group
 
 KINDS = ("trace", "divergence", "failure")
 
@@ -53,7 +54,7 @@ def refines(first, second, model, *, limit=20000):
     for index in range(len(search.groups)):
         fault = search.fault(index)
         if fault != ():
-            return ("no", (fault[0], search.trace_of(index)) + fault[1:])
+            return ("no", (fault[0], trace_of_group(search.groups, index)) + fault[1:])
     tuples = search.tracker.tuples
     return ("yes", sorted([(state, tuples[number]) for state, number in search.pairs]))
 
@@ -87,11 +88,7 @@ class PairSearch:
         number, states, _, _ = self.groups[at]
         if self.is_open(number):
             return
-        targets = {}
-        for state in states:
-            for action, target in self._second.leaving(state):
-                if action != "tau":
-                    targets.setdefault(action, []).append(target)
+        targets = targets_by_action(states, lambda state: self._second.leaving(state))
         for action in sorted(targets):
             self._add_group(self.tracker.target(number, action), targets[action], at, action)
 
@@ -118,15 +115,6 @@ class PairSearch:
             return ()
         refused = [row for row in offers_among(self._second, states) if not self._allows_offers(number, row)]
         return ("failure", min(refused, key=lambda row: (len(row), row))) if refused else ()
-
-    def trace_of(self, at):
-        """The trace of a group."""
-        actions = []
-        while at > 0:
-            _, _, before, action = self.groups[at]
-            actions.append(action)
-            at = before
-        return tuple(reversed(actions))
 
     def _add_group(self, number, targets, before, action):
         if self.tracker.tuples[number] == ():

@@ -132,6 +132,38 @@ raises Growing
 >>> [classes_after(system, 1), small(system).edges]
 [[(0, 3), (1, 2)], ((0, 'a', 1), (1, 'b', 0))]
 ''',
+    '''
+>>> from parley.systems import System
+>>> from parley.equivalence import compare_strongly
+>>> from parley.sheets import sheet_depth, sheet_satisfies
+>>> one = System(4, [(0, "a", 1), (1, "b", 2), (1, "c", 3)])
+>>> two = System(5, [(0, "a", 1), (0, "a", 2), (1, "b", 3), (2, "c", 4)])
+>>> word, sheet = compare_strongly(one, two)
+>>> [word, sheet_satisfies(one, sheet), sheet_satisfies(two, sheet), sheet_depth(sheet)]
+['different', True, False, 2]
+''',
+    '''
+>>> from parley.systems import System
+>>> from parley.softness import slim
+>>> slim(System(4, [(0, "tau", 1), (1, "a", 2), (2, "tau", 3), (3, "tau", 2), (3, "b", 0)])).edges
+((0, 'a', 1), (1, 'b', 0), (1, 'tau', 1))
+''',
+    '''
+>>> from parley.systems import System
+>>> from parley.weakness import compare_weakly
+>>> one = System(3, [(0, "a", 1), (0, "tau", 2)])
+>>> two = System(2, [(0, "a", 1)])
+>>> [compare_weakly(one, two)[0], compare_weakly(two, System(3, [(0, "tau", 1), (1, "a", 2)]))]
+['different', ('same', [(0, 0), (0, 1), (1, 2)])]
+''',
+    '''
+>>> from parley.texts import parse_script
+>>> from parley.networks import split, sizes
+>>> script = parse_script("P = a -> b -> P\\nR = b -> c -> R\\nS = (P <b> R) / {b}")
+>>> network = split(script, ("name", "S"))
+>>> [network.tree, sizes(network), sizes(network, slimming=True)]
+[('hide', ('b',), ('parallel', ('b',), ('part', 0), ('part', 1))), [2, 2, 4, 4], [2, 2, 4, 3]]
+''',
 )
 
 

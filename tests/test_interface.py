@@ -64,6 +64,31 @@ FUNCTIONS = {
         "are_equivalent(system, first, second)",
         "small(system)",
     ),
+    "equivalence": (
+        "joined(first, second)",
+        "compare_strongly(first, second, *, limit=200000)",
+        "is_strong_relation(first, second, relation)",
+    ),
+    "softness": ("soft_classes_after(system, step)", "soft_classes(system)", "slim(system)"),
+    "weakness": (
+        "compare_weakly(first, second, *, limit=200000)",
+        "is_weak_relation(first, second, relation)",
+    ),
+    "networks": (
+        "tree_height(tree)",
+        "assemble(network, *, slimming=False, limit=20000)",
+        "sizes(network, *, slimming=False, limit=20000)",
+        "split(script, process, *, limit=2000)",
+    ),
+    "claims": (
+        "show_claim(claim)",
+        "format_claims(claims)",
+        "parse_claims(text)",
+        "stuck_trace(system)",
+        "looping_trace(system)",
+        "is_stuck_after(system, trace)",
+        "indeterminacy(system)",
+    ),
 }
 CLASSES = {
     ("scripts", "Script"): ("__init__(self, definitions)", "body(self, name)"),
@@ -83,6 +108,7 @@ CLASSES = {
         "events(self)",
         "__eq__(self, other)",
     ),
+    ("networks", "Network"): ("__init__(self, parts, tree)",),
 }
 
 
