@@ -94,7 +94,11 @@ def is_stuck_after(system, trace):
 def looping_trace(system):
     """The least divergence of a system, or None."""
     looping = {state: True for state in diverging(system)}
-    return least_trace(0, lambda state: system.leaving(state), lambda state: state in looping)
+    return least_trace(
+        0,
+        lambda state: system.leaving(state),
+        lambda state: state in looping,
+    )
 
 
 def indeterminacy(system):

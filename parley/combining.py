@@ -10,10 +10,16 @@ def side_by_side(first, second, events, *, limit=20000):
 
     Raises TooLarge(limit).
     """
+    system, _ = paired(first, second, events, limit)
+    return system
+
+
+def paired(first, second, events, limit):
+    """The system of the pairs of states, and the list of the pairs; raises TooLarge(limit)."""
     joint = {action: True for action in events}
     joint["tick"] = True
-    states, edges = numbered((0, 0), lambda pair: pair_edges(first, second, joint, pair, limit), limit)
-    return System(len(states), edges)
+    pairs, edges = numbered((0, 0), lambda pair: pair_edges(first, second, joint, pair, limit), limit)
+    return System(len(pairs), edges), pairs
 
 
 def pair_edges(first, second, joint, pair, limit):

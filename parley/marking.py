@@ -75,7 +75,7 @@ class Marker:
 
     def states(self, mark):
         """The ascending tuple of the states of a mark."""
-        return tuple([state for state, sign in enumerate(self._signs(mark)) if sign == "1"])
+        return tuple(marked(mark))
 
     def before(self, action, mark):
         """The mark of the states from which an edge with an action leads to a marked state."""
@@ -120,6 +120,17 @@ class Marker:
     def _signs(self, mark):
         """A text with a sign for each state: "1" if it is marked."""
         return f"{mark:b}".zfill(self._system.count)[::-1]
+
+
+def marked(mark):
+    """The ascending list of the numbers of the bits that a mark has."""
+    signs = f"{mark:b}"[::-1]
+    found = []
+    at = signs.find("1")
+    while at >= 0:
+        found.append(at)
+        at = signs.find("1", at + 1)
+    return found
 
 
 def joined_signs(signs):

@@ -3,6 +3,7 @@
 from parley.behaviours import diverging
 from parley.condensing import Condensed
 from parley.errors import TooLarge
+from parley.marking import marked
 from parley.parting import Parting
 
 MOST_STATES = 2000
@@ -120,8 +121,3 @@ class SoftClasses:
     def _group_in(self, number):
         """One group of a class; all of them do the same."""
         return list(self.parting.members[number])[0]
-
-
-def marked(mark):
-    """The ascending list of the numbers in a mark."""
-    return [number for number, sign in enumerate(f"{mark:b}"[::-1]) if sign == "1"]

@@ -164,6 +164,47 @@ raises Growing
 >>> [network.tree, sizes(network), sizes(network, slimming=True)]
 [('hide', ('b',), ('parallel', ('b',), ('part', 0), ('part', 1))), [2, 2, 4, 4], [2, 2, 4, 3]]
 ''',
+    '''
+>>> from parley.texts import parse_script
+>>> from parley.claims import parse_claims
+>>> from parley.checking import report
+>>> script = parse_script("P = a -> P + b -> stop\\nQ = a -> Q | b -> stop")
+>>> report(script, parse_claims("P <= Q in traces\\nP <= Q in failures\\nQ determinate"))
+'P <= Q in traces: holds\\nP <= Q in failures: fails after <> offers only <a>\\nQ determinate: fails after <> both does and refuses a\\n1 of 3 hold'
+''',
+    '''
+>>> from parley.systems import System
+>>> from parley.trials import test_of, must_pass, failing
+>>> one = System(2, [(0, "a", 1), (0, "b", 1)])
+>>> two = System(4, [(0, "tau", 1), (0, "tau", 2), (1, "a", 3), (2, "b", 3)])
+>>> test = test_of(one, ("failure", (), ("a",)))
+>>> [test.edges, must_pass(one, test), must_pass(two, test), failing(two, test)]
+[((0, 'b', 1), (0, 'tick', 1), (1, 'pass', 1)), True, False, (((0, 0), (1, 0)), None)]
+''',
+    '''
+>>> from parley.texts import parse_process, show_process
+>>> from parley.tidying import tidy
+>>> show_process(tidy(parse_process("(b -> stop + (stop + a -> P)) + a -> P | (skip ; P) [a=b] / {}")))
+'(skip ; P) [a=b] | a -> P + b -> stop'
+''',
+    '''
+>>> from parley.systems import System
+>>> from parley.scripting import script_of
+>>> from parley.exploring import explore
+>>> from parley.equivalence import compare_strongly
+>>> system = System(3, [(0, "a", 1), (0, "tau", 2), (1, "tick", 2)])
+>>> script, name = script_of(system)
+>>> compare_strongly(system, explore(script, ("name", name))[0])[0]
+'same'
+''',
+    '''
+>>> from parley.systems import System
+>>> from parley.simulating import simulates
+>>> one = System(4, [(0, "a", 1), (1, "b", 2), (1, "c", 3)])
+>>> two = System(5, [(0, "a", 1), (0, "a", 2), (1, "b", 3), (2, "c", 4)])
+>>> [simulates(one, two)[0], simulates(two, one)[0]]
+['yes', 'no']
+''',
 )
 
 

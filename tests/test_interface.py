@@ -89,6 +89,27 @@ FUNCTIONS = {
         "is_stuck_after(system, trace)",
         "indeterminacy(system)",
     ),
+    "checking": (
+        "answer(script, claim, *, limit=2000)",
+        "answers(script, claims, *, limit=2000)",
+        "is_shown(script, claim, reply, *, limit=2000)",
+        "report(script, claims, *, limit=2000)",
+    ),
+    "trials": (
+        "trial(system, test)",
+        "may_pass(system, test)",
+        "must_pass(system, test)",
+        "failing(system, test)",
+        "is_failing(system, test, shown)",
+        "test_of(first, behaviour)",
+    ),
+    "scripting": ("script_of(system)",),
+    "tidying": ("is_calm(process)", "tidy(process)"),
+    "simulating": (
+        "simulates(first, second, *, limit=200000)",
+        "is_simulation(first, second, pairs)",
+        "struck_in(first, second, *, limit=200000)",
+    ),
 }
 CLASSES = {
     ("scripts", "Script"): ("__init__(self, definitions)", "body(self, name)"),

@@ -153,6 +153,17 @@ class NodesTest(unittest.TestCase):
                 if isinstance(operator, (ast.Is, ast.IsNot)):
                     self.assertIn(ast.unparse(right), ("None", "True", "False"), (stem, node.lineno))
 
+    def test_no_two_lambdas_on_one_line(self):
+        for stem, tree in TREES.items():
+            lines = [node.lineno for node in ast.walk(tree) if isinstance(node, ast.Lambda)]
+            self.assertEqual(len(lines), len(set(lines)), stem)
+
+    def test_sort_keys_are_plain(self):
+        for stem, node in nodes(ast.Call):
+            if called(node) == "sorted":
+                without = called(node.args[0]) != "set" or not node.keywords
+                self.assertTrue(without, (stem, node.lineno))
+
     def test_default_values_are_plain(self):
         for stem, node in nodes(ast.arguments):
             for value in node.defaults + [value for value in node.kw_defaults if value is not None]:
