@@ -69,4 +69,4 @@ class Condensed:
             member = self._waiting.pop()
             self.group_of[member] = len(self.groups)
             members.append(member)
-        self.groups.append(sorted(members))
+        self.groups.append(members)

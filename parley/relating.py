@@ -33,8 +33,8 @@ def is_of_states(first, second, relation):
 
 
 def turned(relation):
-    """The ascending list of the pairs in which the states have changed their places."""
-    return sorted([(other, state) for state, other in relation])
+    """The list of the pairs in which the states have changed their places."""
+    return [(other, state) for state, other in relation]
 
 
 class Partners:

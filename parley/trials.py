@@ -50,17 +50,19 @@ def failing(system, test):
     bad = [state not in good for _, state in pairs]
     if not bad[0]:
         return None
+    ends = [not tried.leaving(number) for number in range(tried.count)]
     path = [0]
     pending = [targets_of(tried, 0)]
+    # All complete runs from pairs that are known, but not on the path, are good.
     known = {0: True}
-    # Numbers that are known but not on the path lead to good pairs only.
     places = {0: 0}
     while path:
-        if not tried.leaving(path[-1]):
+        if ends[path[-1]]:
             return (tuple([pairs[number] for number in path]), None)
         if not pending[-1]:
-            del places[path.pop()]
             pending.pop()
+            number = path.pop()
+            del places[number]
         else:
             number = pending[-1].pop()
             if number in places:

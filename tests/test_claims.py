@@ -133,6 +133,8 @@ class StuckTest(unittest.TestCase):
         system = System(5, [(0, "b", 1), (0, "a", 2), (2, "a", 1), (0, "tau", 3), (3, "c", 4)])
         self.assertEqual(stuck_trace(system), ("b",))
         self.assertEqual(stuck_trace(System(4, [(0, "b", 1), (0, "a", 2), (1, "a", 3), (2, "z", 3)])), ("a", "z"))
+        # The lesser action may be done by a state that is found later.
+        self.assertEqual(stuck_trace(System(4, [(0, "b", 2), (0, "tau", 1), (1, "a", 3)])), ("a",))
         # Not the number of edges counts, but the length of the trace.
         self.assertEqual(stuck_trace(System(6, [(0, "z", 1), (1, "z", 5), (0, "tau", 2), (2, "tau", 3), (3, "a", 4)])), ("a",))
 
@@ -163,6 +165,8 @@ class LoopingTest(unittest.TestCase):
         system = System(5, [(0, "b", 1), (0, "a", 2), (2, "a", 1), (1, "tau", 1), (0, "tau", 3), (3, "c", 4), (4, "tau", 4)])
         self.assertEqual(looping_trace(system), ("b",))
         self.assertEqual(looping_trace(System(3, [(0, "b", 1), (0, "a", 2), (1, "tau", 1), (2, "tau", 1)])), ("a",))
+        system = System(4, [(0, "b", 2), (0, "tau", 1), (1, "a", 3), (2, "tau", 2), (3, "tau", 3)])
+        self.assertEqual(looping_trace(system), ("a",))
 
 
 class DeterminateTest(unittest.TestCase):

@@ -188,6 +188,13 @@ class RelationTest(unittest.TestCase):
         self.check(False, STOP, LOOP, [(0, 0)])
         self.check(False, LOOP, STOP, [(0, 0)])
 
+    def test_several_edges_with_one_action(self):
+        fork = System(4, [(0, "a", 1), (0, "a", 2)])
+        # No edge of the second system leads to 3, the only partner of 1; all of its own edges are answered.
+        self.check(False, fork, fork, [(0, 0), (1, 3), (2, 1), (2, 2)])
+        self.check(False, fork, fork, [(0, 0), (1, 2), (2, 2), (3, 1)])
+        self.check(True, fork, fork, [(0, 0), (1, 2), (1, 3), (2, 1)])
+
     def test_doubled_and_turned_pairs(self):
         self.check(False, RING, LOOP, [(0, 0), (0, 0), (1, 0), (2, 0)])
         self.check(False, RING, LOOP, [(0, 0), (0, 1), (0, 2)])

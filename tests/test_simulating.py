@@ -207,6 +207,12 @@ class SimulationTest(unittest.TestCase):
         self.check(False, LATE, EARLY, [(0, 0), (0, 1), (1, 1), (1, 2), (2, 3), (3, 4)])
         self.check(False, EARLY, LATE, [(0, 0), (1, 1), (2, 1), (3, 2), (4, 3)])
 
+    def test_several_edges_with_one_action(self):
+        fork = System(4, [(0, "a", 1), (0, "a", 2)])
+        self.check(False, fork, naive.line("a"), [(0, 0), (3, 1)])
+        self.check(True, fork, naive.line("a"), [(0, 0), (2, 1)])
+        self.check(True, fork, naive.line("a"), [(0, 0), (1, 1), (2, 1), (3, 1)])
+
     def test_doubled_and_turned_pairs(self):
         self.check(False, LATE, EARLY, [(0, 0), (0, 0), (1, 1), (1, 2), (2, 3), (3, 4)])
         self.check(False, LATE, EARLY, [(0, 0), (1, 1), (2, 1), (3, 2), (4, 3)])

@@ -178,6 +178,12 @@ class RelationTest(unittest.TestCase):
         self.check(False, STOP, DO, [(0, 0)])
         self.check(False, DO, STOP, [(0, 0), (1, 0)])
 
+    def test_several_edges_with_one_action(self):
+        fork = System(4, [(0, "a", 1), (0, "a", 2)])
+        self.check(False, fork, fork, [(0, 0), (1, 3), (2, 1), (2, 2)])
+        self.check(False, fork, fork, [(0, 0), (1, 2), (2, 2), (3, 1)])
+        self.check(True, fork, fork, [(0, 0), (1, 2), (1, 3), (2, 1)])
+
     def test_divergence(self):
         self.check(False, HANG, STOP, [(0, 0)])
         self.check(False, STOP, HANG, [(0, 0)])
